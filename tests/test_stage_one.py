@@ -3,38 +3,8 @@
 import unittest
 
 from sailpassage.water import Passage, answers, answers_about
-from told import GREATEST, beginning, begins, boat, joined, shoal, split, state, strong, winds
-
-# Calls behind which nothing of a passage is as it began.
-STIRRED = [
-    begins(4, 3), shoal(5), shoal(6), winds([1, 7]), strong([40, 3, 0]), boat(2, 3, 4, 5, 6),
-]
-
-
-def stirred():
-    passage = Passage()
-    answers_about(passage, joined(STIRRED))
-    return passage
-
-
-class CallCase(unittest.TestCase):
-    def told(self, calls):
-        """The answers to calls about a new passage, one list for each."""
-        return split(answers(joined(calls)))
-
-    def refused(self, call, number):
-        """The call is refused so, on a new passage and on a stirred one, and leaves all as it was."""
-        for passage in (Passage(), stirred()):
-            before = state(passage)
-            self.assertEqual(answers_about(passage, call), [1, number], call)
-            self.assertEqual(state(passage), before, call)
-
-    def changes(self, call, number, **values):
-        """The call answers so, and sets these values and no other, on a new passage and on a stirred one."""
-        for passage in (Passage(), stirred()):
-            before = state(passage)
-            self.assertEqual(answers_about(passage, call), [1, number], call)
-            self.assertEqual(state(passage), {**before, **values}, call)
+from told import (
+    GREATEST, STIRRED, CallCase, beginning, begins, boat, joined, places, shoal, state, stirred, strong, winds)
 
 
 class BeginsTest(CallCase):
@@ -93,16 +63,14 @@ class ShoalTest(CallCase):
         self.assertEqual(self.told([shoal(4), shoal(GREATEST)]), [[-2], [-2]])
 
     def test_the_boat_or_the_mark_is_there(self):
-        self.refused(shoal(0), -3)
-        self.assertEqual(self.told([shoal(3)]), [[-3]])
-        self.assertEqual(self.told(STIRRED + [shoal(11), shoal(3)])[-2:], [[-3], [3]])
+        for passage, boat_cell, mark_cell in ((Passage(), 0, 3), (stirred(), 8, 3)):
+            self.keeps(passage, shoal(boat_cell), [-3])
+            self.keeps(passage, shoal(mark_cell), [-3])
 
     def test_looks_for_boat_and_mark_where_they_are(self):
-        passage = Passage()
-        passage.boat_cell = 2
-        passage.mark_cell = 1
-        self.assertEqual(answers_about(passage, joined([shoal(2), shoal(1), shoal(0), shoal(3)])),
-                         [1, -3, 1, -3, 1, 1, 1, 2])
+        self.assertEqual(self.told(STIRRED + [shoal(0), shoal(11)])[-2:], [[3], [4]])
+        calls = [places(2, 1), shoal(2), shoal(1), shoal(0), shoal(3)]
+        self.assertEqual(self.told(calls), [[0], [-3], [-3], [1], [2]])
 
     def test_it_is_one_already(self):
         passage = stirred()

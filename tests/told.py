@@ -1,6 +1,9 @@
-"""How the tests write calls and read answers."""
+"""How the tests write calls and read answers, and what they share."""
 
 import copy
+import unittest
+
+from sailpassage.water import Passage, answers, answers_about
 
 GREATEST = 4294967295
 
@@ -23,6 +26,26 @@ def strong(row):
 
 def boat(one, two, three, four, turn):
     return [4, one, two, three, four, turn]
+
+
+def places(boat_cell, mark_cell):
+    return [5, boat_cell, mark_cell]
+
+
+def sail(least, greatest, slow):
+    return [6, least, greatest, slow]
+
+
+def change(minutes):
+    return [7, minutes]
+
+
+def soonest():
+    return [8]
+
+
+def check(way):
+    return [9, len(way)] + list(way)
 
 
 def joined(calls):
@@ -61,3 +84,46 @@ def beginning(wide, high):
         "boat_cell": 0,
         "mark_cell": wide * high - 1,
     }
+
+
+# Calls behind which nothing of a passage is as it began.
+STIRRED = [
+    begins(4, 3), shoal(5), shoal(6), winds([1, 7]), strong([40, 3, 0]), boat(2, 3, 4, 5, 6), places(8, 3),
+    sail(2, 40, 1), sail(0, 3, 0), change(4),
+]
+
+
+def stirred():
+    passage = Passage()
+    answers_about(passage, joined(STIRRED))
+    return passage
+
+
+class CallCase(unittest.TestCase):
+    def told(self, calls):
+        """The answers to calls about a new passage, one list for each."""
+        return split(answers(joined(calls)))
+
+    def last(self, calls):
+        """The answer to the last of the calls; none of those before it is refused."""
+        given = self.told(calls)
+        self.assertGreaterEqual(min(answer[0] for answer in given[:-1]), 0, calls)
+        return given[-1]
+
+    def refused(self, call, number):
+        """The call is refused so, on a new passage and on a stirred one, and leaves all as it was."""
+        for passage in (Passage(), stirred()):
+            self.keeps(passage, call, [number])
+
+    def keeps(self, passage, call, answer):
+        """The call answers so about the passage, and leaves all as it was."""
+        before = state(passage)
+        self.assertEqual(split(answers_about(passage, call)), [answer], call)
+        self.assertEqual(state(passage), before, call)
+
+    def changes(self, call, number, **values):
+        """The call answers so, and sets these values and no other, on a new passage and on a stirred one."""
+        for passage in (Passage(), stirred()):
+            before = state(passage)
+            self.assertEqual(answers_about(passage, call), [1, number], call)
+            self.assertEqual(state(passage), {**before, **values}, call)
